@@ -175,7 +175,7 @@ func TestNoNoughts(t *testing.T) {
 	}
 }
 
-// P5.2, P5.4: sectors of one frame, and the others of another one.
+// P5.2, P5.4: the first bytes of one frame, and the others of another one, at each place.
 func TestTornFrames(t *testing.T) {
 	l := []api.Frame{
 		{Epoch: 1, Bytes: page(1)},
@@ -183,22 +183,7 @@ func TestTornFrames(t *testing.T) {
 		{Epoch: 2, Bytes: page(1)},
 		{Epoch: 1, Bytes: page(200)},
 	}
-	for _, a := range l {
-		for _, z := range l {
-			first, last := laidFrame(a), laidFrame(z)
-			for many := range 577 {
-				b := slices.Concat(first[:many], last[many:])
-				switch {
-				case bytes.Equal(b, first):
-					wantFrame(t, "torn", b, a)
-				case bytes.Equal(b, last):
-					wantFrame(t, "torn", b, z)
-				default:
-					wantNoFrame(t, fmt.Sprintf("%d bytes of %v, then %v", many, a, z), b)
-				}
-			}
-		}
-	}
+	wantTorn(t, l, laidFrame, wantFrame, wantNoFrame)
 }
 
 // P5.2: each field and each byte of the page is in the sum.

@@ -162,22 +162,7 @@ func TestTurnedTwice(t *testing.T) {
 // P5.4: the first bytes of one head, and the others of another one, at each place.
 func TestTornHeads(t *testing.T) {
 	l := append(heads(), api.Head{Serial: 1, Epoch: 1}, api.Head{Serial: 2, Epoch: 1, Size: 5, Count: 3}, api.Head{Serial: 3, Epoch: 2, Size: 5})
-	for _, a := range l {
-		for _, z := range l {
-			first, last := laidHead(a), laidHead(z)
-			for many := range 65 {
-				b := slices.Concat(first[:many], last[many:])
-				switch {
-				case bytes.Equal(b, first):
-					wantHead(t, "torn", b, a)
-				case bytes.Equal(b, last):
-					wantHead(t, "torn", b, z)
-				default:
-					wantNoHead(t, fmt.Sprintf("%d bytes of %v, then %v", many, a, z), b)
-				}
-			}
-		}
-	}
+	wantTorn(t, l, laidHead, wantHead, wantNoHead)
 }
 
 // P5.2: what is handed in is not changed, and each answer is new.

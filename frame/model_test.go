@@ -3,6 +3,7 @@ package frame_test
 import (
 	"bytes"
 	"encoding/binary"
+	"fmt"
 	"hash/crc32"
 	"math"
 	"slices"
@@ -187,6 +188,27 @@ func wantFrame(t *testing.T, name string, b []byte, f api.Frame) {
 	t.Helper()
 	if got, e := frame.Decode(b); !sameFrame(got, f) || e != api.OK {
 		t.Errorf("%s: Decode(%x) is %v, %v, not %v", name, b, got, e, f)
+	}
+}
+
+// wantTorn holds that the first bytes of one thing, and the others of another one, at each place, are those of one of both, or none's.
+func wantTorn[T any](t *testing.T, l []T, laid func(T) []byte, want func(*testing.T, string, []byte, T), wantNone func(*testing.T, string, []byte)) {
+	t.Helper()
+	for _, a := range l {
+		for _, z := range l {
+			first, last := laid(a), laid(z)
+			for many := range len(first) + 1 {
+				b := slices.Concat(first[:many], last[many:])
+				switch {
+				case bytes.Equal(b, first):
+					want(t, "torn", b, a)
+				case bytes.Equal(b, last):
+					want(t, "torn", b, z)
+				default:
+					wantNone(t, fmt.Sprintf("%d bytes of %v, then %v", many, a, z), b)
+				}
+			}
+		}
 	}
 }
 
